@@ -1,0 +1,1 @@
+"""Wornbridges: trips over bridges that wear out."""
