@@ -63,6 +63,223 @@ ROUTES = (
 """,
 )
 
+TRAFFIC = (
+    """
+>>> from wornbridges.towns import Town
+>>> from wornbridges.traffic import Traffic
+>>> town = Town(3, ((0, 1, 2, 10), (1, 2, 3, 4), (0, 2, 9, 7)))
+>>> Traffic(town, ((0, 2, 1), (0, 3, 1)))
+raises InvalidTrips(index=1)
+""",
+    """
+>>> from wornbridges.towns import Town
+>>> from wornbridges.traffic import Traffic
+>>> town = Town(3, ((0, 1, 2, 10), (1, 2, 3, 4), (0, 2, 9, 7)))
+>>> traffic = Traffic(town, ((0, 2, 1), (2, 1, 2)))
+>>> [traffic.trips, traffic.position, traffic.lives, traffic.changes]
+[((0, 2, 1), (2, 1, 2)), 0, (10, 4, 7), []]
+""",
+    """
+>>> from wornbridges.towns import Town
+>>> from wornbridges.traffic import Traffic
+>>> town = Town(3, ((0, 1, 2, 10), (1, 2, 3, 4), (0, 2, 9, 7)))
+>>> traffic = Traffic(town, ((0, 2, 1), (2, 1, 2)))
+>>> traffic.go_to(4)
+>>> traffic.lives
+(6, 0, 5)
+""",
+    """
+>>> from wornbridges.towns import Town
+>>> from wornbridges.traffic import Traffic
+>>> town = Town(3, ((0, 1, 2, 10), (1, 2, 3, 4), (0, 2, 9, 7)))
+>>> traffic = Traffic(town, ((0, 2, 1), (2, 1, 2)))
+>>> traffic.close(1)
+>>> [traffic.changes, traffic.route_of(1)]
+[[('close', 0, 1)], (2,)]
+""",
+    """
+>>> from wornbridges.towns import Town
+>>> from wornbridges.traffic import Traffic
+>>> town = Town(3, ((0, 1, 2, 10), (1, 2, 3, 4), (0, 2, 9, 7)))
+>>> traffic = Traffic(town, ((0, 2, 1), (2, 1, 2)))
+>>> traffic.go_to(3)
+>>> traffic.mend(1, 10)
+>>> [traffic.lives, traffic.route_of(4)]
+[(8, 10, 7), (1,)]
+""",
+    """
+>>> from wornbridges.towns import Town
+>>> from wornbridges.traffic import Traffic
+>>> town = Town(3, ((0, 1, 2, 10), (1, 2, 3, 4), (0, 2, 9, 7)))
+>>> traffic = Traffic(town, ((0, 2, 1), (2, 1, 2)))
+>>> [traffic.route_of(4), traffic.route_of(10 ** 18)]
+[(2, 0), None]
+""",
+    """
+>>> from wornbridges.towns import Town
+>>> from wornbridges.traffic import Traffic
+>>> town = Town(3, ((0, 1, 2, 10), (1, 2, 3, 4), (0, 2, 9, 7)))
+>>> traffic = Traffic(town, ((0, 2, 1), (2, 1, 2)))
+>>> traffic.lives_after(7)
+(4, 0, 1)
+""",
+    """
+>>> from wornbridges.towns import Town
+>>> from wornbridges.traffic import Traffic
+>>> town = Town(3, ((0, 1, 2, 10), (1, 2, 3, 4), (0, 2, 9, 7)))
+>>> traffic = Traffic(town, ((0, 2, 1), (2, 1, 2)))
+>>> list(traffic.routes(1, 4))
+[(0, 1), (1,), (0, 1), (2, 0)]
+""",
+    """
+>>> from wornbridges.towns import Town
+>>> from wornbridges.traffic import Traffic
+>>> town = Town(3, ((0, 1, 2, 10), (1, 2, 3, 4), (0, 2, 9, 7)))
+>>> traffic = Traffic(town, ((0, 2, 1), (2, 1, 2)))
+>>> list(traffic.phases())
+[(1, 2, ((0, 1), (1,))), (3, 3, ((0, 1), (2, 0))), (4, 7, ((2,), (2, 0))), (8, 9, ((2,), None)), (10, None, (None, None))]
+""",
+)
+
+COUNTS = (
+    """
+>>> from wornbridges.towns import Town
+>>> from wornbridges.traffic import Traffic
+>>> from wornbridges.counts import crossings
+>>> town = Town(3, ((0, 1, 2, 10), (1, 2, 3, 4), (0, 2, 9, 7)))
+>>> traffic = Traffic(town, ((0, 2, 1), (2, 1, 2)))
+>>> crossings(traffic, 0, 100)
+4
+""",
+    """
+>>> from wornbridges.towns import Town
+>>> from wornbridges.traffic import Traffic
+>>> from wornbridges.counts import nth_crossing
+>>> town = Town(3, ((0, 1, 2, 10), (1, 2, 3, 4), (0, 2, 9, 7)))
+>>> traffic = Traffic(town, ((0, 2, 1), (2, 1, 2)))
+>>> [nth_crossing(traffic, 0, 3), nth_crossing(traffic, 0, 5)]
+[4, None]
+""",
+    """
+>>> from wornbridges.towns import Town
+>>> from wornbridges.traffic import Traffic
+>>> from wornbridges.counts import failures, nth_failure
+>>> town = Town(3, ((0, 1, 2, 10), (1, 2, 3, 4), (0, 2, 9, 7)))
+>>> traffic = Traffic(town, ((0, 2, 1), (2, 1, 2)))
+>>> [failures(traffic, 100), nth_failure(traffic, 2)]
+[92, 10]
+""",
+    """
+>>> from wornbridges.towns import Town
+>>> from wornbridges.traffic import Traffic
+>>> from wornbridges.counts import distance
+>>> town = Town(3, ((0, 1, 2, 10), (1, 2, 3, 4), (0, 2, 9, 7)))
+>>> traffic = Traffic(town, ((0, 2, 1), (2, 1, 2)))
+>>> distance(traffic, 4)
+24
+""",
+    """
+>>> from wornbridges.towns import Town
+>>> from wornbridges.traffic import Traffic
+>>> from wornbridges.counts import never_crossed
+>>> town = Town(3, ((0, 1, 2, 10), (1, 2, 3, 4), (0, 2, 9, 7)))
+>>> traffic = Traffic(town, ((0, 2, 1), (2, 1, 2)))
+>>> never_crossed(traffic)
+[]
+""",
+    """
+>>> from wornbridges.towns import Town
+>>> from wornbridges.traffic import Traffic
+>>> from wornbridges.counts import bears_until
+>>> town = Town(3, ((0, 1, 2, 10), (1, 2, 3, 4), (0, 2, 9, 7)))
+>>> traffic = Traffic(town, ((0, 2, 1), (2, 1, 2)))
+>>> bears_until(traffic, 1, 2)
+2
+""",
+    """
+>>> from wornbridges.towns import Town
+>>> from wornbridges.traffic import Traffic
+>>> from wornbridges.counts import connected_until
+>>> town = Town(3, ((0, 1, 2, 10), (1, 2, 3, 4), (0, 2, 9, 7)))
+>>> traffic = Traffic(town, ((0, 2, 1), (2, 1, 2)))
+>>> connected_until(traffic, 0, 2, 1)
+9
+""",
+    """
+>>> from wornbridges.towns import Town
+>>> from wornbridges.traffic import Traffic
+>>> from wornbridges.counts import first_failure
+>>> town = Town(3, ((0, 1, 2, 10), (1, 2, 3, 4), (0, 2, 9, 7)))
+>>> traffic = Traffic(town, ((0, 2, 1), (2, 1, 2)))
+>>> [first_failure(traffic, 0), first_failure(traffic, 1)]
+[11, 8]
+""",
+)
+
+TRIALS = (
+    """
+>>> from wornbridges.towns import Town
+>>> from wornbridges.traffic import Traffic
+>>> from wornbridges.trials import effect_of_closing
+>>> town = Town(3, ((0, 1, 2, 10), (1, 2, 3, 4), (0, 2, 9, 7)))
+>>> traffic = Traffic(town, ((0, 2, 1), (2, 1, 2)))
+>>> effect_of_closing(traffic, 1)
+1
+""",
+    """
+>>> from wornbridges.towns import Town
+>>> from wornbridges.traffic import Traffic
+>>> from wornbridges.trials import effect_of_mending
+>>> town = Town(3, ((0, 1, 2, 10), (1, 2, 3, 4), (0, 2, 9, 7)))
+>>> traffic = Traffic(town, ((0, 2, 1), (2, 1, 2)))
+>>> effect_of_mending(traffic, 1, 10)
+4
+""",
+    """
+>>> from wornbridges.towns import Town
+>>> from wornbridges.traffic import Traffic
+>>> from wornbridges.trials import first_difference
+>>> town = Town(3, ((0, 1, 2, 10), (1, 2, 3, 4), (0, 2, 9, 7)))
+>>> traffic = Traffic(town, ((0, 2, 1), (2, 1, 2)))
+>>> less = Town(3, ((0, 1, 2, 10), (1, 2, 3, 4), (0, 2, 9, 6)))
+>>> first_difference(traffic, Traffic(less, traffic.trips))
+9
+""",
+)
+
+CUTS = (
+    """
+>>> from wornbridges.towns import Town
+>>> from wornbridges.cuts import trip_bound
+>>> town = Town(3, ((0, 1, 2, 10), (1, 2, 3, 4), (0, 2, 9, 7)))
+>>> trip_bound(town, (0, 2, 1))
+(11, [0, 1])
+""",
+    """
+>>> from wornbridges.towns import Town
+>>> from wornbridges.cuts import best_routes
+>>> town = Town(3, ((0, 1, 2, 10), (1, 2, 3, 4), (0, 2, 9, 7)))
+>>> sum([times for route, times in best_routes(town, (0, 2, 1))])
+11
+""",
+    """
+>>> from wornbridges.towns import Town
+>>> from wornbridges.traffic import Traffic
+>>> from wornbridges.cuts import failing_cut
+>>> town = Town(3, ((0, 1, 2, 10), (1, 2, 3, 4), (0, 2, 9, 7)))
+>>> traffic = Traffic(town, ((0, 2, 1), (2, 1, 2)))
+>>> failing_cut(traffic, 1)
+[2]
+""",
+    """
+>>> from wornbridges.towns import Town
+>>> from wornbridges.cuts import is_cut
+>>> town = Town(3, ((0, 1, 2, 10), (1, 2, 3, 4), (0, 2, 9, 7)))
+>>> [is_cut(town, (4, 0, 1), (2, 1, 2), [2]), is_cut(town, (4, 0, 2), (2, 1, 2), [2])]
+[True, False]
+""",
+)
+
 
 class ExampleTest(unittest.TestCase):
     def check(self, examples):
@@ -76,6 +293,18 @@ class ExampleTest(unittest.TestCase):
 
     def test_routes(self):
         self.check(ROUTES)
+
+    def test_traffic(self):
+        self.check(TRAFFIC)
+
+    def test_counts(self):
+        self.check(COUNTS)
+
+    def test_trials(self):
+        self.check(TRIALS)
+
+    def test_cuts(self):
+        self.check(CUTS)
 
 
 if __name__ == "__main__":

@@ -3,13 +3,40 @@
 import inspect
 import unittest
 
-from wornbridges import routes, towns
+from wornbridges import counts, cuts, routes, towns, traffic, trials
 from wornbridges.towns import Town
+from wornbridges.traffic import Traffic
+from wornbridges.trials import Closed, Mended
 
 FUNCTIONS = (
     (routes, "shortest_route", ["town", "remaining", "one", "other", "load"]),
     (routes, "route_length", ["town", "route"]),
     (routes, "reached_places", ["town", "remaining", "place", "load"]),
+    (counts, "crossings", ["traffic", "bridge", "count"]),
+    (counts, "nth_crossing", ["traffic", "bridge", "number"]),
+    (counts, "failures", ["traffic", "count"]),
+    (counts, "nth_failure", ["traffic", "number"]),
+    (counts, "distance", ["traffic", "count"]),
+    (counts, "never_crossed", ["traffic"]),
+    (counts, "bears_until", ["traffic", "bridge", "load"]),
+    (counts, "connected_until", ["traffic", "one", "other", "load"]),
+    (counts, "first_failure", ["traffic", "kind"]),
+    (trials, "effect_of_closing", ["traffic", "bridge"]),
+    (trials, "effect_of_mending", ["traffic", "bridge", "amount"]),
+    (trials, "first_difference", ["one", "other"]),
+    (cuts, "trip_bound", ["town", "trip"]),
+    (cuts, "best_routes", ["town", "trip"]),
+    (cuts, "failing_cut", ["traffic", "kind"]),
+    (cuts, "is_cut", ["town", "remaining", "trip", "places"]),
+)
+METHODS = (
+    ("go_to", ["self", "count"]),
+    ("close", ["self", "bridge"]),
+    ("mend", ["self", "bridge", "amount"]),
+    ("route_of", ["self", "number"]),
+    ("lives_after", ["self", "count"]),
+    ("routes", ["self", "first", "last"]),
+    ("phases", ["self"]),
 )
 
 
@@ -38,6 +65,30 @@ class InterfaceTest(unittest.TestCase):
         self.assertEqual(list(inspect.signature(Town.is_bridge).parameters), ["count", "bridge"])
         self.assertIsInstance(vars(Town)["parse"], classmethod)
         self.assertEqual(list(inspect.signature(Town.parse).parameters), ["text"])
+
+    def test_traffic_is_defined_in_its_file(self):
+        self.assertEqual(Traffic.__module__, traffic.__name__)
+        self.assertEqual(list(inspect.signature(Traffic).parameters), ["town", "trips"])
+
+    def test_traffic_properties(self):
+        for name in ("town", "trips", "position", "lives", "changes"):
+            with self.subTest(name=name):
+                self.assertIsInstance(vars(Traffic)[name], property)
+                self.assertIs(vars(Traffic)[name].fset is not None, name == "position")
+
+    def test_traffic_methods(self):
+        for name, arguments in METHODS:
+            with self.subTest(name=name):
+                self.assertEqual(list(inspect.signature(vars(Traffic)[name]).parameters), arguments)
+                self.assertIs(inspect.isgeneratorfunction(vars(Traffic)[name]), name in ("routes", "phases"))
+
+    def test_trials_are_context_managers_of_their_file(self):
+        for trial, arguments in ((Closed, ["traffic", "bridge"]), (Mended, ["traffic", "bridge", "amount"])):
+            with self.subTest(trial=trial.__name__):
+                self.assertEqual(trial.__module__, trials.__name__)
+                self.assertEqual(list(inspect.signature(trial).parameters), arguments)
+                self.assertIn("__enter__", vars(trial))
+                self.assertIn("__exit__", vars(trial))
 
 
 if __name__ == "__main__":

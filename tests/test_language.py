@@ -79,6 +79,20 @@ class LanguageTest(unittest.TestCase):
             if isinstance(node, ast.arg):
                 self.assertFalse(hasattr(builtins, node.arg), f"{name}: {node.arg}")
 
+    def test_attributes_have_names_of_their_own(self):
+        attributes = [node for _, node in nodes() if isinstance(node, ast.Attribute)]
+        stored = {node.attr for node in attributes if isinstance(node.ctx, ast.Store)}
+        classes = [node for _, node in nodes() if isinstance(node, ast.ClassDef)]
+        methods = {row.name for found in classes for row in found.body if isinstance(row, ast.FunctionDef)}
+        self.assertEqual(stored & methods, set())
+
+    def test_generators_have_names_of_their_own(self):
+        functions = [node for _, node in nodes() if isinstance(node, ast.FunctionDef)]
+        names = [function.name for function in functions]
+        for function in functions:
+            if [node for node in ast.walk(function) if isinstance(node, (ast.Yield, ast.YieldFrom))]:
+                self.assertEqual(names.count(function.name), 1, function.name)
+
 
 if __name__ == "__main__":
     unittest.main()
