@@ -280,6 +280,69 @@ CUTS = (
 """,
 )
 
+MENDS = (
+    """
+>>> from wornbridges.towns import Town
+>>> from wornbridges.mends import fewest_mends
+>>> town = Town(3, ((0, 1, 2, 10), (1, 2, 3, 4), (0, 2, 9, 7)))
+>>> [fewest_mends(town, ((0, 2, 1), (2, 1, 2)), 7), fewest_mends(town, ((0, 2, 1), (2, 1, 2)), 20)]
+[[], [1]]
+""",
+)
+
+OBSERVERS = (
+    """
+>>> from wornbridges.towns import Town
+>>> from wornbridges.observers import Observer
+>>> town = Town(3, ((0, 1, 2, 10), (1, 2, 3, 4), (0, 2, 9, 7)))
+>>> more = Town(3, ((0, 1, 2, 10), (1, 2, 3, 6), (0, 2, 9, 7)))
+>>> observer = Observer([town, more], ((0, 2, 1), (2, 1, 2)))
+>>> [observer.see_trip(1, 4, True), observer.candidates]
+[1, [1]]
+""",
+    """
+>>> from wornbridges.towns import Town
+>>> from wornbridges.observers import Observer
+>>> town = Town(3, ((0, 1, 2, 10), (1, 2, 3, 4), (0, 2, 9, 7)))
+>>> more = Town(3, ((0, 1, 2, 10), (1, 2, 3, 6), (0, 2, 9, 7)))
+>>> observer = Observer([town, more], ((0, 2, 1), (2, 1, 2)))
+>>> [observer.see_total(1, 4, 3), observer.candidates, observer.records]
+[1, [0], [('total', 1, 4, 3)]]
+""",
+    """
+>>> from wornbridges.towns import Town
+>>> from wornbridges.observers import Observer
+>>> town = Town(3, ((0, 1, 2, 10), (1, 2, 3, 4), (0, 2, 9, 7)))
+>>> more = Town(3, ((0, 1, 2, 10), (1, 2, 3, 6), (0, 2, 9, 7)))
+>>> observer = Observer([town, more], ((0, 2, 1), (2, 1, 2)))
+>>> observer.next_sight(1)
+4
+""",
+    """
+>>> from wornbridges.towns import Town
+>>> from wornbridges.observers import Observer
+>>> town = Town(3, ((0, 1, 2, 10), (1, 2, 3, 4), (0, 2, 9, 7)))
+>>> more = Town(3, ((0, 1, 2, 10), (1, 2, 3, 6), (0, 2, 9, 7)))
+>>> observer = Observer([town, more], ((0, 2, 1), (2, 1, 2)))
+>>> observer.best_bridge()
+0
+""",
+)
+
+WORKS = (
+    """
+>>> from wornbridges.works import Upkeep
+>>> work = Upkeep(0, 1, 5, every=10, times=3)
+>>> [work.line, work.last_planned, list(work.planned())]
+['at 0 mend 1 by 5 every 10 times 3', 20, [('mend', 0, 1, 5), ('mend', 10, 1, 5), ('mend', 20, 1, 5)]]
+""",
+    """
+>>> from wornbridges.works import Closing
+>>> Closing(0, 24)
+raises InvalidWork(index=0)
+""",
+)
+
 
 class ExampleTest(unittest.TestCase):
     def check(self, examples):
@@ -305,6 +368,15 @@ class ExampleTest(unittest.TestCase):
 
     def test_cuts(self):
         self.check(CUTS)
+
+    def test_mends(self):
+        self.check(MENDS)
+
+    def test_observers(self):
+        self.check(OBSERVERS)
+
+    def test_works(self):
+        self.check(WORKS)
 
 
 if __name__ == "__main__":

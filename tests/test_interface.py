@@ -3,10 +3,12 @@
 import inspect
 import unittest
 
-from wornbridges import counts, cuts, routes, towns, traffic, trials
+from wornbridges import counts, cuts, mends, observers, routes, towns, traffic, trials, works
+from wornbridges.observers import Observer
 from wornbridges.towns import Town
 from wornbridges.traffic import Traffic
 from wornbridges.trials import Closed, Mended
+from wornbridges.works import Closing, Mending, Upkeep, Work
 
 FUNCTIONS = (
     (routes, "shortest_route", ["town", "remaining", "one", "other", "load"]),
@@ -28,6 +30,13 @@ FUNCTIONS = (
     (cuts, "best_routes", ["town", "trip"]),
     (cuts, "failing_cut", ["traffic", "kind"]),
     (cuts, "is_cut", ["town", "remaining", "trip", "places"]),
+    (mends, "fewest_mends", ["town", "trips", "count"]),
+)
+OBSERVER_METHODS = (
+    ("see_trip", ["self", "bridge", "number", "crosses"]),
+    ("see_total", ["self", "bridge", "count", "total"]),
+    ("next_sight", ["self", "bridge"]),
+    ("best_bridge", ["self"]),
 )
 METHODS = (
     ("go_to", ["self", "count"]),
@@ -89,6 +98,38 @@ class InterfaceTest(unittest.TestCase):
                 self.assertEqual(list(inspect.signature(trial).parameters), arguments)
                 self.assertIn("__enter__", vars(trial))
                 self.assertIn("__exit__", vars(trial))
+
+    def test_observer(self):
+        self.assertEqual(Observer.__module__, observers.__name__)
+        self.assertEqual(list(inspect.signature(Observer).parameters), ["towns", "trips"])
+        for name in ("candidates", "records"):
+            self.assertIsInstance(vars(Observer)[name], property)
+        for name, arguments in OBSERVER_METHODS:
+            with self.subTest(name=name):
+                self.assertEqual(list(inspect.signature(vars(Observer)[name]).parameters), arguments)
+
+    def test_works(self):
+        for work, arguments in (
+            (Work, ["position", "bridge"]),
+            (Closing, ["position", "bridge"]),
+            (Mending, ["position", "bridge", "amount"]),
+            (Upkeep, ["position", "bridge", "amount", "every", "times"]),
+        ):
+            with self.subTest(work=work.__name__):
+                self.assertEqual(work.__module__, works.__name__)
+                self.assertEqual(list(inspect.signature(work).parameters), arguments)
+                self.assertIn("WORD", vars(work))
+        for name in ("every", "times"):
+            self.assertEqual(inspect.signature(Upkeep).parameters[name].kind.name, "KEYWORD_ONLY")
+        self.assertIn("MAX_BRIDGE", vars(Work))
+        self.assertIn("MAX_TIMES", vars(Upkeep))
+
+    def test_work_properties_and_methods(self):
+        for name in ("position_planned", "last_planned", "bridge_planned", "line"):
+            with self.subTest(name=name):
+                self.assertIsInstance(vars(Work)[name], property)
+        self.assertTrue(inspect.isgeneratorfunction(vars(Work)["planned"]))
+        self.assertEqual(list(inspect.signature(Work.planned).parameters), ["self"])
 
 
 if __name__ == "__main__":

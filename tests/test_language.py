@@ -88,10 +88,11 @@ class LanguageTest(unittest.TestCase):
 
     def test_generators_have_names_of_their_own(self):
         functions = [node for _, node in nodes() if isinstance(node, ast.FunctionDef)]
-        names = [function.name for function in functions]
+        yielding, others = set(), set()
         for function in functions:
-            if [node for node in ast.walk(function) if isinstance(node, (ast.Yield, ast.YieldFrom))]:
-                self.assertEqual(names.count(function.name), 1, function.name)
+            yields = [node for node in ast.walk(function) if isinstance(node, (ast.Yield, ast.YieldFrom))]
+            (yielding if yields else others).add(function.name)
+        self.assertEqual(yielding & others, set())
 
 
 if __name__ == "__main__":

@@ -1,8 +1,6 @@
 """Trials: what closing or mending a bridge changes, without changing it for good."""
 
-from math import lcm
-
-from wornbridges.phases import earlier
+from wornbridges.differences import first_difference_of
 
 
 class Kept:
@@ -54,41 +52,12 @@ class Mended:
         self._kept = self._kept.outer
 
 
-def _first_split(first, last, routes, others):
-    """Return the number of the first trip from first to last of which the routes differ, or None."""
-    if routes == others:
-        return None
-    # Both rounds together begin anew after so many trips.
-    end = earlier(last, first + lcm(len(routes), len(others)) - 1)
-    for number in range(first, end + 1):
-        if routes[(number - 1) % len(routes)] != others[(number - 1) % len(others)]:
-            return number
-    return None
-
-
-def _first_difference_of(phases_of_one, phases_of_other):
-    """Return the number of the first trip of which the routes differ in two lists of all phases, or None."""
-    first, at, beside = 1, 0, 0
-    while True:
-        _, end, routes = phases_of_one[at]
-        _, other_end, other_routes = phases_of_other[beside]
-        last = earlier(end, other_end)
-        number = _first_split(first, last, routes, other_routes)
-        if number is not None or last is None:
-            return number
-        first = last + 1
-        if end == last:
-            at += 1
-        if other_end == last:
-            beside += 1
-
-
 def effect_of_closing(traffic, bridge):
     """Return the number of the first trip that changes if a bridge is closed at the position, or None."""
     before = list(traffic.phases())
     with Closed(traffic, bridge):
         after = list(traffic.phases())
-    return _first_difference_of(before, after)
+    return first_difference_of(before, after)
 
 
 def effect_of_mending(traffic, bridge, amount):
@@ -96,9 +65,9 @@ def effect_of_mending(traffic, bridge, amount):
     before = list(traffic.phases())
     with Mended(traffic, bridge, amount):
         after = list(traffic.phases())
-    return _first_difference_of(before, after)
+    return first_difference_of(before, after)
 
 
 def first_difference(one, other):
     """Return the number of the first trip of which the routes differ in two traffics, or None."""
-    return _first_difference_of(list(one.phases()), list(other.phases()))
+    return first_difference_of(list(one.phases()), list(other.phases()))
