@@ -94,6 +94,18 @@ class Simulated:
         return [number for number, route in enumerate(self.routes, 1) if test(route)]
 
 
+def simulated_difference(one, other):
+    """Return the number of the first trip that differs in two simulations, or None."""
+    count = max(one.count, other.count)
+    for simulated in (one, other):
+        while simulated.count < count:
+            simulated.make_trip()
+    for number in range(1, count + 1):
+        if one.routes[number - 1] != other.routes[number - 1]:
+            return number
+    return None
+
+
 def random_town(chance, places=5, bridges=7, life=30):
     """Return a small random town."""
     count = chance.randint(2, places)

@@ -343,6 +343,91 @@ raises InvalidWork(index=0)
 """,
 )
 
+SCHEDULES = (
+    """
+>>> from wornbridges.schedules import Schedule
+>>> from wornbridges.works import Closing, Mending
+>>> schedule = Schedule(Closing(5, 1), Mending(2, 0, 1)).joined(Schedule(Closing(2, 2)))
+>>> [schedule.change_count, list(schedule.planned())]
+[3, [('mend', 2, 0, 1), ('close', 2, 2), ('close', 5, 1)]]
+""",
+    r"""
+>>> from wornbridges.schedules import Schedule
+>>> Schedule.parse("at 2 mend 0 by 1\nat 5 close 1").text
+'at 2 mend 0 by 1\nat 5 close 1'
+""",
+    r"""
+>>> from wornbridges.schedules import Schedule
+>>> Schedule.parse("at 2 close 0\nat 2 open 0")
+raises InvalidText(row=1)
+""",
+    """
+>>> from wornbridges.towns import Town
+>>> from wornbridges.schedules import Schedule, scheduled_traffic
+>>> from wornbridges.works import Mending
+>>> town = Town(3, ((0, 1, 1, 3), (1, 2, 1, 9), (0, 2, 5, 9)))
+>>> traffic = scheduled_traffic(town, ((0, 2, 1),), Schedule(Mending(2, 0, 1)))
+>>> [traffic.position, traffic.changes, list(traffic.phases())[0]]
+[0, [('mend', 2, 0, 1)], (1, 2, ((0, 1),))]
+""",
+    """
+>>> from wornbridges.towns import Town
+>>> from wornbridges.schedules import Schedule, first_effects, needed_changes
+>>> from wornbridges.works import Mending
+>>> town = Town(3, ((0, 1, 1, 3), (1, 2, 1, 9), (0, 2, 5, 9)))
+>>> schedule = Schedule(Mending(2, 0, 1), Mending(0, 1, 5))
+>>> [first_effects(town, ((0, 2, 1),), schedule), needed_changes(town, ((0, 2, 1),), schedule)]
+[[None, 4], [('mend', 2, 0, 1)]]
+""",
+)
+
+EVENTS = (
+    """
+>>> from wornbridges.towns import Town
+>>> from wornbridges.traffic import Traffic
+>>> from wornbridges.events import events
+>>> town = Town(3, ((0, 1, 1, 3), (1, 2, 1, 9), (0, 2, 5, 9)))
+>>> traffic = Traffic(town, ((0, 2, 1),))
+>>> list(events(traffic, 20))
+[(3, 'worn', 0, 1), (3, 'detour', 0, 2, 5), (12, 'worn', 2, 1), (12, 'lost', 0)]
+""",
+)
+
+CONSOLE = (
+    """
+>>> from wornbridges.towns import Town
+>>> from wornbridges.traffic import Traffic
+>>> from wornbridges.console import Console
+>>> town = Town(3, ((0, 1, 1, 3), (1, 2, 1, 9), (0, 2, 5, 9)))
+>>> console = Console(Traffic(town, ((0, 2, 1),)))
+>>> list(console.answers("go 3", "lives", "mend 0 by 2", "route 4"))
+['position 3', 'lives 0 6 9', 'mended 0 by 2', 'route 0 1']
+""",
+    """
+>>> from wornbridges.towns import Town
+>>> from wornbridges.traffic import Traffic
+>>> from wornbridges.console import Console
+>>> town = Town(3, ((0, 1, 1, 3), (1, 2, 1, 9), (0, 2, 5, 9)))
+>>> console = Console(Traffic(town, ((0, 2, 1),)))
+>>> list(console.answers("begin", "close 2", "rollback", "commit", "route 0", "jump 1"))
+['open 1', 'closed 2', 'open 0', 'error transaction', 'error number', 'malformed']
+""",
+)
+
+PACKING = (
+    """
+>>> from wornbridges.towns import Town
+>>> from wornbridges.packing import encode_town, unpack_bytes
+>>> unpack_bytes(encode_town(Town(2, ((0, 1, 5, 300),))))
+[84, 2, 1, 0, 1, 5, 172, 2, 244, 173]
+""",
+    """
+>>> from wornbridges.packing import decode_town, pack_bytes
+>>> decode_town(pack_bytes([84, 2, 1, 1, 1]))
+raises InvalidData(offset=4)
+""",
+)
+
 
 class ExampleTest(unittest.TestCase):
     def check(self, examples):
@@ -377,6 +462,18 @@ class ExampleTest(unittest.TestCase):
 
     def test_works(self):
         self.check(WORKS)
+
+    def test_schedules(self):
+        self.check(SCHEDULES)
+
+    def test_events(self):
+        self.check(EVENTS)
+
+    def test_console(self):
+        self.check(CONSOLE)
+
+    def test_packing(self):
+        self.check(PACKING)
 
 
 if __name__ == "__main__":

@@ -3,8 +3,12 @@
 import inspect
 import unittest
 
-from wornbridges import counts, cuts, mends, observers, routes, towns, traffic, trials, works
+from wornbridges import (
+    console, counts, cuts, events, mends, observers, packing, routes, schedules, towns, traffic, trials, works,
+)
+from wornbridges.console import Console
 from wornbridges.observers import Observer
+from wornbridges.schedules import Schedule
 from wornbridges.towns import Town
 from wornbridges.traffic import Traffic
 from wornbridges.trials import Closed, Mended
@@ -31,6 +35,14 @@ FUNCTIONS = (
     (cuts, "failing_cut", ["traffic", "kind"]),
     (cuts, "is_cut", ["town", "remaining", "trip", "places"]),
     (mends, "fewest_mends", ["town", "trips", "count"]),
+    (schedules, "scheduled_traffic", ["town", "trips", "schedule"]),
+    (schedules, "first_effects", ["town", "trips", "schedule"]),
+    (schedules, "needed_changes", ["town", "trips", "schedule"]),
+    (events, "events", ["traffic", "last"]),
+    (packing, "pack_bytes", ["numbers"]),
+    (packing, "unpack_bytes", ["data"]),
+    (packing, "encode_town", ["town"]),
+    (packing, "decode_town", ["data"]),
 )
 OBSERVER_METHODS = (
     ("see_trip", ["self", "bridge", "number", "crosses"]),
@@ -130,6 +142,28 @@ class InterfaceTest(unittest.TestCase):
                 self.assertIsInstance(vars(Work)[name], property)
         self.assertTrue(inspect.isgeneratorfunction(vars(Work)["planned"]))
         self.assertEqual(list(inspect.signature(Work.planned).parameters), ["self"])
+
+    def test_schedule(self):
+        self.assertEqual(Schedule.__module__, schedules.__name__)
+        self.assertEqual(str(inspect.signature(Schedule)), "(*works)")
+        for name in ("works", "change_count", "text"):
+            self.assertIsInstance(vars(Schedule)[name], property)
+        self.assertTrue(inspect.isgeneratorfunction(vars(Schedule)["planned"]))
+        self.assertEqual(str(inspect.signature(vars(Schedule)["joined"])), "(self, *others)")
+        self.assertIsInstance(vars(Schedule)["parse"], classmethod)
+        self.assertEqual(list(inspect.signature(Schedule.parse).parameters), ["text"])
+
+    def test_events_is_a_generator(self):
+        self.assertTrue(inspect.isgeneratorfunction(events.events))
+
+    def test_console(self):
+        self.assertEqual(Console.__module__, console.__name__)
+        self.assertEqual(list(inspect.signature(Console).parameters), ["traffic"])
+        for name in ("depth", "led"):
+            self.assertIsInstance(vars(Console)[name], property)
+        self.assertEqual(str(inspect.signature(vars(Console)["run"])), "(self, line)")
+        self.assertTrue(inspect.isgeneratorfunction(vars(Console)["answers"]))
+        self.assertEqual(str(inspect.signature(vars(Console)["answers"])), "(self, *lines)")
 
 
 if __name__ == "__main__":

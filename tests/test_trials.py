@@ -3,7 +3,7 @@
 import random
 import unittest
 
-from simulated import Simulated, make_changes, random_changes, random_town, random_trips
+from simulated import Simulated, make_changes, random_changes, random_town, random_trips, simulated_difference
 from wornbridges.errors import InvalidCount, InvalidLife, UnknownBridge
 from wornbridges.towns import Town
 from wornbridges.traffic import Traffic
@@ -263,17 +263,6 @@ class DifferenceTest(unittest.TestCase):
 
 
 class SimulationTest(unittest.TestCase):
-    def difference(self, one, other):
-        """Return the number of the first trip that differs in two simulations, or None."""
-        count = max(one.count, other.count)
-        for simulated in (one, other):
-            while simulated.count < count:
-                simulated.make_trip()
-        for number in range(1, count + 1):
-            if one.routes[number - 1] != other.routes[number - 1]:
-                return number
-        return None
-
     def random_traffic(self, chance):
         town = random_town(chance)
         trips = random_trips(chance, town)
@@ -294,10 +283,10 @@ class SimulationTest(unittest.TestCase):
                 with self.subTest(town=traffic.town.text, trips=traffic.trips, changes=traffic.changes, bridge=bridge):
                     changed = [*early, ("close", traffic.position, bridge)]
                     other = Simulated(traffic.town, traffic.trips, changed)
-                    self.assertEqual(effect_of_closing(traffic, bridge), self.difference(simulated, other))
+                    self.assertEqual(effect_of_closing(traffic, bridge), simulated_difference(simulated, other))
                     changed = [*early, ("mend", traffic.position, bridge, amount)]
                     other = Simulated(traffic.town, traffic.trips, changed)
-                    self.assertEqual(effect_of_mending(traffic, bridge, amount), self.difference(simulated, other))
+                    self.assertEqual(effect_of_mending(traffic, bridge, amount), simulated_difference(simulated, other))
             self.assertEqual(state_of(traffic), before)
 
     def test_differences(self):
@@ -306,7 +295,7 @@ class SimulationTest(unittest.TestCase):
             one, one_simulated = self.random_traffic(chance)
             other, other_simulated = self.random_traffic(chance)
             with self.subTest(one=(one.town.text, one.trips), other=(other.town.text, other.trips)):
-                wanted = self.difference(one_simulated, other_simulated)
+                wanted = simulated_difference(one_simulated, other_simulated)
                 self.assertEqual(first_difference(one, other), wanted)
                 self.assertEqual(first_difference(other, one), wanted)
 
@@ -321,7 +310,7 @@ class SimulationTest(unittest.TestCase):
             other = Traffic(town, trips)
             make_changes(other, one.changes)
             with self.subTest(one=(one.town.text, one.trips), other=(town.text, trips), changes=one.changes):
-                wanted = self.difference(one_simulated, Simulated(town, trips, one.changes))
+                wanted = simulated_difference(one_simulated, Simulated(town, trips, one.changes))
                 self.assertEqual(first_difference(one, other), wanted)
 
 
