@@ -74,6 +74,18 @@ class LanguageTest(unittest.TestCase):
                 self.assertIsInstance(node.ctx, ast.Load, f"{name}: {node.id}")
                 self.assertIn(node.id, BUILTINS, name)
 
+    def test_left_sides_of_remainders_are_surely_numbers(self):
+        for name, node in nodes():
+            if isinstance(node, ast.BinOp) and isinstance(node.op, ast.Mod):
+                difference = isinstance(node.left, ast.BinOp) and isinstance(node.left.op, ast.Sub)
+                made = isinstance(node.left, ast.Call) and getattr(node.left.func, "id", "") in ("int", "len")
+                self.assertTrue(difference or made, f"{name}: {node.lineno}")
+
+    def test_no_percent_signs_in_strings(self):
+        for name, node in nodes():
+            if isinstance(node, ast.Constant) and isinstance(node.value, (str, bytes)):
+                self.assertNotIn("%", str(node.value), name)
+
     def test_parameters_are_no_builtins(self):
         for name, node in nodes():
             if isinstance(node, ast.arg):

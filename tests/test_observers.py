@@ -122,8 +122,9 @@ class SeeingTest(ObserverCase):
     def test_records(self):
         wanted = []
         for record in (
-            ("trip", 0, 1000, False), ("total", 0, 0, 0), ("trip", 0, 3, True), ("total", 0, 7, 5), ("trip", 0, 3, True),
-            ("trip", 0, 3, True), ("total", 0, 7, 5), ("total", 1, LIMIT, 2), ("trip", 1, LIMIT, False),
+            ("trip", 0, 1000, False), ("total", 0, 0, 0), ("trip", 0, 3, True), ("total", 0, 7, 5),
+            ("trip", 0, 3, True), ("trip", 0, 3, True), ("total", 0, 7, 5), ("total", 1, LIMIT, 2),
+            ("trip", 1, LIMIT, False),
         ):
             if record[0] == "trip":
                 self.observer.see_trip(*record[1:])

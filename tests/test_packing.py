@@ -189,7 +189,8 @@ class FaultTest(unittest.TestCase):
         self.assertEqual(decode_town(checked([84, 2, 1, 0, 1, 5, 128, 128, 1])).lives, (128 * 128,))
 
     def test_a_life_that_is_too_great(self):
-        for life in (LIMIT + 1, 2 ** 60, 2 ** 63 - 1, 2 ** 63, 2 ** 63 + 1, 2 ** 64, 10 ** 19, 2 ** 70, 10 ** 30, 10 ** 900):
+        powers = [2 ** bits + more for bits in (60, 63, 64, 70) for more in (-1, 0, 1)]
+        for life in (LIMIT + 1, *powers, 10 ** 19, 10 ** 30, 10 ** 900):
             self.check_numbers(6, [84, 2, 1, 0, 1, 5, *groups_of(life)])
             self.check_numbers(11, [84, 2, 2, 0, 1, 5, 200, 1, 1, 0, 7, *groups_of(life)])
         self.assertEqual(decode_town(checked([84, 2, 1, 0, 1, 5, *groups_of(LIMIT)])).lives, (LIMIT,))

@@ -77,7 +77,8 @@ class MakingTest(ScheduleCase):
 class PlannedTest(ScheduleCase):
     def test_ascending_positions(self):
         schedule = Schedule(Closing(9, 1), Upkeep(1, 2, 3, every=5, times=3), Mending(7, 0, 1), Closing(0, 0))
-        wanted = [("close", 0, 0), ("mend", 1, 2, 3), ("mend", 6, 2, 3), ("mend", 7, 0, 1), ("close", 9, 1), ("mend", 11, 2, 3)]
+        wanted = [("close", 0, 0), ("mend", 1, 2, 3), ("mend", 6, 2, 3), ("mend", 7, 0, 1), ("close", 9, 1),
+                  ("mend", 11, 2, 3)]
         self.assertEqual(list(schedule.planned()), wanted)
 
     def test_order_of_the_works_at_the_same_position(self):
@@ -114,7 +115,8 @@ class JoinedTest(ScheduleCase):
     def test_joined(self):
         one, other = Schedule(Closing(5, 1), Closing(3, 1)), Schedule(Closing(4, 2), Mending(3, 0, 1))
         third = Schedule(Closing(3, 7))
-        lines = {one: ["at 5 close 1", "at 3 close 1"], other: ["at 4 close 2", "at 3 mend 0 by 1"], third: ["at 3 close 7"]}
+        lines = {one: ["at 5 close 1", "at 3 close 1"], other: ["at 4 close 2", "at 3 mend 0 by 1"]}
+        lines[third] = ["at 3 close 7"]
         for others in ((), (one,), (other,), (other, third), (third, other), (third, third, one), (Schedule(),)):
             wanted = lines[one] + [line for added in others for line in lines.get(added, [])]
             found = one.joined(*others)

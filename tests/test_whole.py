@@ -5,7 +5,8 @@ import unittest
 
 from wornbridges.console import Console
 from wornbridges.counts import (
-    bears_until, connected_until, crossings, distance, failures, first_failure, never_crossed, nth_crossing, nth_failure,
+    bears_until, connected_until, crossings, distance, failures, first_failure, never_crossed, nth_crossing,
+    nth_failure,
 )
 from wornbridges.cuts import best_routes, failing_cut, is_cut, trip_bound
 from wornbridges.errors import BridgeError
@@ -114,8 +115,8 @@ class World:
             lambda: traffic.mend(0, 0), lambda: traffic.mend(3, 1), lambda: traffic.route_of(0),
             lambda: traffic.lives_after(-1), lambda: list(traffic.routes(2, 1)), lambda: crossings(traffic, 3, 1),
             lambda: nth_crossing(traffic, 0, 0), lambda: failures(traffic, -1), lambda: nth_failure(traffic, 0),
-            lambda: distance(traffic, -1), lambda: bears_until(traffic, 0, 10), lambda: connected_until(traffic, 0, 3, 1),
-            lambda: first_failure(traffic, 2), lambda: Closed(traffic, 3).__enter__(),
+            lambda: distance(traffic, -1), lambda: bears_until(traffic, 0, 10), lambda: first_failure(traffic, 2),
+            lambda: connected_until(traffic, 0, 3, 1), lambda: Closed(traffic, 3).__enter__(),
             lambda: Mended(traffic, 0, 0).__enter__(), lambda: effect_of_closing(traffic, -1),
             lambda: effect_of_mending(traffic, 0, LIMIT + 1), lambda: trip_bound(town, wrong[0]),
             lambda: best_routes(town, wrong[0]), lambda: failing_cut(traffic, -1),
@@ -187,7 +188,7 @@ class WholeTest(unittest.TestCase):
                 self.check()
 
     def test_after_lines_that_cannot_be_done(self):
-        lines = ("go -1", f"go {LIMIT + 1}", "close 3", "mend 0 by 0", "mend 3 by 1", "route 0", "failures", "", "begin ")
+        lines = ("go -1", f"go {LIMIT + 1}", "close 3", "mend 0 by 0", "mend 3 by 1", "route 0", "failures", "", "x ")
         for line in lines:
             self.assertIn(self.world.console.run(line).split(" ")[0], ("error", "malformed"))
             self.check()

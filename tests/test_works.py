@@ -162,7 +162,8 @@ class LimitTest(unittest.TestCase):
                 Upkeep(0, 0, 1, *arguments, **more)
 
     def test_positions_and_the_like_by_keyword_too(self):
-        self.assertEqual(Upkeep(position=1, bridge=2, amount=3, every=4, times=1).line, "at 1 mend 2 by 3 every 4 times 1")
+        upkeep = Upkeep(position=1, bridge=2, amount=3, every=4, times=1)
+        self.assertEqual(upkeep.line, "at 1 mend 2 by 3 every 4 times 1")
         self.assertEqual(Mending(position=1, bridge=2, amount=3).line, "at 1 mend 2 by 3")
         self.assertEqual(Closing(position=1, bridge=2).line, "at 1 close 2")
 
