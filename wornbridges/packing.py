@@ -46,7 +46,7 @@ def encode_town(town):
     """Return the bytes of a town."""
     numbers = [MARK, town.place_count, len(town.bridges)]
     for one, other, length, life in town.bridges:
-        numbers.extend([one, other, length, *_groups_of(life)])
+        numbers.extend([one, other, length] + _groups_of(life))
     return pack_bytes(numbers + _checksum(numbers))
 
 
